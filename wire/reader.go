@@ -19,12 +19,12 @@ func Open(b []byte) *Reader {
 }
 
 // number: what stands first in b, and in how many bytes.
-// A group only ever adds to those ahead of it: as soon as these are above most, the number is.
-func number(b []byte, most int) (n, size int, e api.Errno) {
+// It knows of no bound of a caller's: bytes that end too early are ErrEnd, whatever their groups come to so far.
+func number(b []byte) (n, size int, e api.Errno) {
 	e = api.ErrForm
 	for i, c := range b {
 		n |= int(c&groupMask) << (groupBits * i)
-		if n > most {
+		if n > api.MaxNum {
 			goto fault
 		}
 		if i > 0 && c == 0 {
@@ -50,8 +50,14 @@ func (r *Reader) Upto(most int) int {
 	if r.Err() != api.OK {
 		return 0
 	}
-	n, size, e := number(r.rest, min(most, api.MaxNum))
-	r.Fail(e)
+	n, size, e := number(r.rest)
+	if e == api.OK && n > most {
+		e = api.ErrForm
+	}
+	if e != api.OK {
+		r.Fail(e)
+		return 0
+	}
 	r.rest = r.rest[size:]
 	return n
 }

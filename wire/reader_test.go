@@ -105,17 +105,30 @@ func TestReaderNumFaults(t *testing.T) {
 			t.Errorf("behind a number %q: %d %d", s, first, n)
 		}
 		failed(t, "the second Num of "+s, r, want)
-		r = Open([]byte(s))
-		if n := r.Upto(math.MaxInt); n != 0 {
-			t.Errorf("Upto of %q: %d", s, n)
+		for _, most := range bounds() {
+			bounded(t, s, most, want)
 		}
-		failed(t, "Upto of "+s, r, want)
-		r = Open([]byte(s))
-		if x := r.Text(math.MaxInt); x != "" {
-			t.Errorf("Text of %q: %q", s, x)
-		}
-		failed(t, "Text of "+s, r, want)
 	}
+}
+
+// bounds: what Upto and Text are handed as most.
+func bounds() []int {
+	return []int{math.MinInt, -1, 0, 1, 5, 127, 128, 16383, 16384, api.MaxNum - 1, api.MaxNum, api.MaxNum + 1, math.MaxInt}
+}
+
+// bounded: Upto and Text of these bytes, up to most, answer that error.
+func bounded(t *testing.T, s string, most int, want api.Errno) {
+	t.Helper()
+	r := Open([]byte(s))
+	if n := r.Upto(most); n != 0 {
+		t.Errorf("Upto(%d) of %q: %d", most, s, n)
+	}
+	failed(t, "Upto of "+s, r, want)
+	r = Open([]byte(s))
+	if x := r.Text(most); x != "" {
+		t.Errorf("Text(%d) of %q: %q", most, s, x)
+	}
+	failed(t, "Text of "+s, r, want)
 }
 
 // P104, P105: numbers there and back, one behind the other.
@@ -151,7 +164,7 @@ func TestReaderReadsWhatWasWritten(t *testing.T) {
 	read := 0
 	for i := range 1 << 24 {
 		b := [3]byte{byte(i), byte(i >> 8), byte(i >> 16)}
-		n, size, e := number(b[:], api.MaxNum)
+		n, size, e := number(b[:])
 		if e != api.OK {
 			continue
 		}
@@ -184,32 +197,57 @@ func TestReaderUpto(t *testing.T) {
 			failed(t, "above most", r, api.ErrForm)
 		}
 		for i := range b {
-			r := Open(b[:i])
-			r.Upto(n)
-			failed(t, "cut off", r, api.ErrEnd)
+			for _, most := range append(bounds(), n-1, n) {
+				bounded(t, string(b[:i]), most, api.ErrEnd)
+			}
 		}
 	}
 }
 
-// What a number is above is told at the first byte that shows it.
-func TestReaderUptoTellsAtOnce(t *testing.T) {
+// P104: bytes that end ahead of a number's last group are ErrEnd, even where their groups are above most already; a number that is there, and above most, is ErrForm.
+func TestReaderAboveMost(t *testing.T) {
 	for _, x := range []struct {
 		s    string
 		most int
 		want api.Errno
 	}{
-		{"\x86", 5, api.ErrForm},
+		{"\x81", 0, api.ErrEnd},
+		{"\x86", 5, api.ErrEnd},
 		{"\x85", 5, api.ErrEnd},
 		{"\x80", 127, api.ErrEnd},
-		{"\x80\x81", 127, api.ErrForm},
-		{"\x80", -1, api.ErrForm},
+		{"\x80\x81", 127, api.ErrEnd},
+		{"\x80", -1, api.ErrEnd},
+		{"\x06", 5, api.ErrForm},
+		{"\x86\x01", 5, api.ErrForm},
+		{"\x80\x01", 127, api.ErrForm},
+		{"\x80\x80\x01", 16383, api.ErrForm},
+		{"\x00", -1, api.ErrForm},
+		{"\x86\x00", 5, api.ErrForm},
+		{"\x80\x80\x80\x80\x80\x80\x80\x10", api.MaxNum - 1, api.ErrForm},
 	} {
-		r := Open([]byte(x.s))
-		r.Upto(x.most)
-		failed(t, "Upto", r, x.want)
-		r = Open([]byte(x.s))
-		r.Text(x.most)
-		failed(t, "Text", r, x.want)
+		bounded(t, x.s, x.most, x.want)
+	}
+}
+
+// P104: of any two bytes Upto answers what Num does, but of a number above most.
+func TestReaderUptoIsNumWithABound(t *testing.T) {
+	for i := range 1 << 16 {
+		b := []byte{byte(i), byte(i >> 8)}
+		plain := Open(b)
+		n := plain.Num()
+		for _, most := range bounds() {
+			want, wantErr := n, plain.Err()
+			if wantErr == api.OK && n > most {
+				want, wantErr = 0, api.ErrForm
+			}
+			r := Open(b)
+			if got := r.Upto(most); got != want || r.Err() != wantErr {
+				t.Fatalf("%v up to %d: %d, %d, want %d, %d", b, most, got, r.Err(), want, wantErr)
+			}
+			if wantErr == api.OK && r.Left() != plain.Left() {
+				t.Fatalf("%v up to %d: %d are left, want %d", b, most, r.Left(), plain.Left())
+			}
+		}
 	}
 }
 
